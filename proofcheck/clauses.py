@@ -1,6 +1,6 @@
 """The house's own clauses."""
 
-from proofcheck.checks import clauses_are_taken
+from proofcheck.checks import clauses_check
 
 
 def clauses_in_order(facts):
@@ -26,6 +26,6 @@ def rows_in_order(facts):
 def find_clauses(task):
     """The first row of clauses that is taken, None if there is none."""
     for row in rows_in_order(task.facts):
-        if clauses_are_taken(task, row):
+        if clauses_check(task, row) == [0]:
             return row
     return None

@@ -56,7 +56,8 @@ def states_come_to(task):
     found = [task.so]
     place = 0
     while place < len(found):
-        for state in states_behind(task, found[place]):
+        ends = states_behind(task, found[place])
+        for state in ends:
             if state not in found:
                 found.append(state)
         place += 1

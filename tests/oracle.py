@@ -153,3 +153,126 @@ def goes_round(oracle, acts):
     """Whether what is wanted can be had by other acts than these, nothing taken away, nothing in the way."""
     prices = [math.inf if number in acts else 0 for number in range(len(oracle.rows))] + [0]
     return oracle.worths(prices).get("end", math.inf) == 0
+
+
+def first_of(wrongs):
+    """What is wrong first: the rows begin with the number of what's wrong, then what tells which is lowest."""
+    return list(min(wrongs, default=(0,)))
+
+
+class Checker:
+    """Each check by gathering all that is wrong, and only then taking what comes first."""
+
+    def __init__(self, oracle):
+        self.oracle = oracle
+
+    def plan(self, claim, acts):
+        states = [self.oracle.so]
+        for place, number in enumerate(acts):
+            ends = [end for other, _, end in self.oracle.steps(states[-1]) if other == number]
+            if not ends:
+                return [1, place]
+            states += ends
+        cost = self.price(acts)
+        return first_of([(2,)] * (not self.oracle.is_wanted(states[-1])) + [(3, cost)] * (cost > claim))
+
+    def price(self, acts):
+        return sum(self.oracle.rows[number][4] for number in acts)
+
+    def table(self, claim, numbers):
+        oracle = self.oracle
+        if len(numbers) != len(oracle.states()):
+            return [1]
+        first = numbers[oracle.so]
+        return first_of([(2, state) for state in oracle.states() if oracle.is_wanted(state) and numbers[state]]
+                        + [(3, state, number) for state in oracle.states()
+                           for number, cost, end in oracle.steps(state) if numbers[state] - numbers[end] > cost]
+                        + [(4, first)] * (first < claim))
+
+    def cuts(self, claim, lists):
+        worth = sum(cut[0] for cut in lists)
+        left = [row[4] - sum(cut[0] for cut in lists if {number} & set(cut[1:]))
+                for number, row in enumerate(self.oracle.rows)]
+        return first_of([(1, place) for place, cut in enumerate(lists) if goes_round(self.oracle, cut[1:])]
+                        + [(2, number) for number, price in enumerate(left) if price < 0]
+                        + [(3, worth)] * (worth < claim))
+
+    def state_set(self, states):
+        ways = [(place, number, end) for place, state in enumerate(states)
+                for number, _, end in self.oracle.steps(state)]
+        wrong = first_of([(1,)] * (self.oracle.so not in set(states))
+                         + [(2, place, number) for place, number, end in ways if end not in set(states)]
+                         + [(3, place) for place, state in enumerate(states) if self.oracle.is_wanted(state)])
+        return wrong[:1] + [states[place] for place in wrong[1:2]] + wrong[2:]
+
+    def clauses(self, literals):
+        oracle = self.oracle
+        row = list(zip(literals[::2], literals[1::2]))
+        models = oracle.models(row)
+        each = [oracle.models([clause]) for clause in row]
+        return first_of([(1, place) for place, where in enumerate(each) if oracle.so not in where]
+                        + [(2, place, number, state) for place, where in enumerate(each) for state in models
+                           for number, _, end in oracle.steps(state) if end not in where]
+                        + [(3, state) for state in models if oracle.is_wanted(state)])
+
+    def pair(self, acts, numbers):
+        if any(number >= len(self.oracle.rows) for number in acts):
+            return [0]
+        cost = self.price(acts)
+        both = self.plan(cost, acts) == self.table(cost, numbers) == [0]
+        return [1, cost] if both else [0]
+
+
+class OracleHouse:
+    """The house call by call, with what it refuses."""
+
+    def __init__(self):
+        self.oracle = Oracle(1, 0, 0, [])
+
+    def are_there(self, *groups):
+        return all(group < 2 ** self.oracle.facts for group in groups)
+
+    def begins(self, facts, so, wanted):
+        if facts not in (1, 2, 3, 4) or max(so, wanted) >= 2 ** facts:
+            return [-1]
+        self.oracle = Oracle(facts, so, wanted, [])
+        return [0]
+
+    def act(self, *row):
+        if len(self.oracle.rows) == 8:
+            return [-7]
+        if len(row) != 5 or not self.are_there(*row[:4]) or row[4] not in range(1, 1001):
+            return [-1]
+        self.oracle.rows.append(row)
+        return [len(self.oracle.rows) - 1]
+
+    def from_state(self, so, wanted):
+        if not self.are_there(so, wanted):
+            return [-1]
+        self.oracle.so, self.oracle.wanted = so, wanted
+        return [0]
+
+    def own(self, kind):
+        return self.oracle.own(kind) if kind in range(5) else [-1]
+
+    def plan(self, claim, *acts):
+        return Checker(self.oracle).plan(claim, acts)
+
+    def table(self, claim, *numbers):
+        return Checker(self.oracle).table(claim, numbers)
+
+    def cuts(self, claim, *lists):
+        if any(not cut or max(cut[1:], default=-1) >= len(self.oracle.rows) for cut in lists):
+            return [-1]
+        return Checker(self.oracle).cuts(claim, lists)
+
+    def state_set(self, *states):
+        return Checker(self.oracle).state_set(states) if self.are_there(*states) else [-1]
+
+    def clauses(self, *literals):
+        if len(literals) % 2 or any(literal // 2 >= self.oracle.facts for literal in literals):
+            return [-1]
+        return Checker(self.oracle).clauses(literals)
+
+    def pair(self, acts, numbers):
+        return Checker(self.oracle).pair(acts, numbers)

@@ -42,6 +42,35 @@ methodcaller os quit setattr super type vars sys format format_map chr print
 DUNDERS = ("__init__", "__eq__", "__repr__", "__str__", "__len__")
 
 
+WALKED = ("zip", "enumerate", "reversed", "range", "items", "keys", "values")
+WALKERS = ("list", "tuple", "dict", "sorted", "sum", "any", "all", "enumerate", "zip", "min", "max")
+CHANGES = ("append", "clear", "extend", "insert", "pop", "remove", "reverse", "setdefault", "update")
+KEYWORDS = {"sorted": ("key", "reverse"), "min": ("key", "default"), "max": ("key", "default"), "sum": ("start",),
+            "enumerate": ("start",), "zip": ("strict",)}
+
+
+def called(call):
+    return getattr(call.func, "id", getattr(call.func, "attr", None))
+
+
+def places_to_walk(node):
+    """What stands where a walk may stand."""
+    if isinstance(node, (ast.For, ast.comprehension)):
+        return [node.iter]
+    if isinstance(node, ast.Call) and called(node) in WALKERS:
+        return node.args[:1]
+    return []
+
+
+def changed_by(node):
+    """The names of the values that a part of a row changes in place."""
+    if isinstance(node, ast.Call) and isinstance(node.func, ast.Attribute) and node.func.attr in CHANGES:
+        return [part.id for part in ast.walk(node.func.value) if isinstance(part, ast.Name)]
+    if isinstance(node, ast.Subscript) and isinstance(node.ctx, ast.Store):
+        return [part.id for part in ast.walk(node.value) if isinstance(part, ast.Name)]
+    return []
+
+
 def files():
     return sorted(path for path in PACKAGE.rglob("*") if "__pycache__" not in path.parts)
 
@@ -139,6 +168,53 @@ class Statements(unittest.TestCase):
                 self.assertIn(ast.unparse(node.comparators[0]), ("None", "True", "False"), (name, node.lineno))
             if isinstance(node, ast.BinOp) and isinstance(node.op, ast.Pow):
                 self.assertIsInstance(node.right, ast.Constant, (name, node.lineno))
+
+
+    def test_forms_that_would_need_narrower_rules_are_not_used(self):
+        for name, node in walked():
+            self.assertNotIsInstance(node, (ast.Try, ast.Set, ast.Lambda, ast.JoinedStr, ast.Raise), name)
+            if isinstance(node, ast.Name):
+                self.assertNotIn(node.id, ("set", "frozenset", "isinstance"), (name, node.lineno))
+
+    def test_no_annotation(self):
+        for name, node in walked():
+            self.assertIsNone(getattr(node, "annotation", None), name)
+            self.assertIsNone(getattr(node, "returns", None), name)
+
+    def test_texts(self):
+        for name, node in walked():
+            if isinstance(node, ast.Constant) and isinstance(node.value, str):
+                self.assertNotIn("%", node.value, (name, node.lineno))
+        for path in files():
+            self.assertNotIn("\\", path.read_text(), path.name)
+
+    def test_nothing_that_could_be_changed_stands_at_a_files_top(self):
+        for name, tree in trees():
+            for node in tree.body:
+                if isinstance(node, ast.Assign):
+                    self.assertIsInstance(node.value, ast.Constant, (name, node.lineno))
+
+
+class Walks(unittest.TestCase):
+    def test_what_is_walked_is_walked_on_the_spot(self):
+        for name, tree in trees():
+            spots = [spot for node in ast.walk(tree) for spot in places_to_walk(node)]
+            for node in ast.walk(tree):
+                if isinstance(node, ast.Call) and called(node) in WALKED:
+                    self.assertIn(node, spots, (name, node.lineno))
+
+    def test_keywords(self):
+        for name, node in walked():
+            if isinstance(node, ast.Call):
+                for word in node.keywords:
+                    self.assertIn(word.arg, KEYWORDS.get(called(node), ()), (name, node.lineno))
+
+    def test_what_a_loop_walks_is_not_changed_in_it(self):
+        for name, node in walked():
+            if isinstance(node, ast.For):
+                over = {part.id for part in ast.walk(node.iter) if isinstance(part, ast.Name)}
+                changed = {target for row in node.body for part in ast.walk(row) for target in changed_by(part)}
+                self.assertEqual(over & changed, set(), (name, node.lineno))
 
 
 class Names(unittest.TestCase):

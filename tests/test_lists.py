@@ -4,10 +4,12 @@ import unittest
 
 from proofcheck.house import answers
 from proofcheck.reading import read_calls
-from tests.asking import act, begins, from_state, own, plan, told
+from tests.asking import act, begins, clauses, cuts, from_state, own, pair, plan, state_set, table, told
 
 HOUSE = [begins(2, 0, 2), act(0, 0, 1, 0, 2), act(1, 0, 2, 0, 3), own(0), own(1), own(2), own(3), own(4),
-         plan(5, 0, 1), plan(4, 0, 1), plan(5, 1), from_state(2, 1), act(7), own(9)]
+         plan(5, 0, 1), plan(4, 0, 1), plan(5, 1), table(5, 5, 3, 0, 0), table(5), cuts(5, [3, 1], [2, 0]),
+         cuts(6, [3, 1], [2, 0]), cuts(0, []), pair([0, 1], [5, 3, 0, 0]), pair([0], [5, 3, 0, 0]),
+         from_state(2, 1), state_set(2), state_set(4), clauses(1, 1), clauses(1), act(7), own(9)]
 
 
 class Untouched(list):
@@ -29,21 +31,40 @@ class Answers(unittest.TestCase):
                           8, 5, 2, 3, 1, 1, 2, 1, 0,
                           1, -6, 1, -6,
                           1, 0, 2, 3, 5, 2, 1, 0,
-                          1, 0, 1, -1, 1, -1])
+                          1, 0, 1, 1, 1, 0, 2, 3, 5, 1, -1, 2, 1, 5, 1, 0,
+                          1, 0, 3, 2, 2, 0, 1, -1, 4, 2, 0, 0, 0, 1, -1, 1, -1, 1, -1])
 
     def test_numbers_as_the_interface_tells_them(self):
         self.assertEqual(answers([0, 3, 1, 0, 1, 0, 1, 0, 1, 5, 0, 0, 1, 0, 5, 2, 2, 0, 1, 0, 3, 1, 0, 0,
                                   4, 1, 5, 1, 1, 0, 4, 1, 0, 1, 0]),
                          [1, 0, 1, 0, 1, 0, 2, 5, 0, 1, 0, 1, 2])
 
+    def test_numbers_as_the_interface_tells_them_for_the_proofs(self):
+        self.assertEqual(answers([0, 3, 1, 0, 1, 0, 1, 0, 1, 5, 0, 0, 1, 0, 5,
+                                  5, 1, 5, 1, 2, 5, 0,
+                                  6, 1, 5, 2, 2, 2, 0, 2, 3, 0, 6, 1, 0, 0, 6, 1, 0, 1, 0,
+                                  7, 0, 1, 2, 0, 1,
+                                  8, 0, 1, 4, 1, 1, 0, 1, 8, 0, 1, 0,
+                                  9, 0, 2, 1, 0, 2, 5, 0, 9, 0, 2, 0, 0]),
+                         [1, 0, 1, 0, 1, 0, 1, 0, 1, 0, 1, -1, 2, 3, 1, 4, 2, 0, 0, 0, 2, 3, 1, 2, 1, 5, 1, 0])
+
     def test_one_call(self):
         self.assertEqual(answers(own(0)), [1, 0])
         self.assertEqual(answers(act()), [1, -1])
         self.assertEqual(answers(plan(0)), [1, 0])
+        self.assertEqual(answers(table(0)), [1, 1])
+        self.assertEqual(answers(cuts(0)), [1, 0])
+        self.assertEqual(answers(state_set()), [1, 1])
+        self.assertEqual(answers(clauses()), [2, 3, 0])
+        self.assertEqual(answers(pair([], [])), [1, 0])
 
     def test_sixty_calls_the_longest_lists(self):
         calls = [plan(0, *[0] * 20)] * 60
         self.assertEqual(answers(told(calls)), [2, 1, 0] * 60)
+        calls = [cuts(0, *[[0] * 20] * 10)] * 60
+        self.assertEqual(answers(told(calls)), [1, -1] * 60)
+        calls = [pair([0] * 20, [0] * 20)] * 60
+        self.assertEqual(answers(told(calls)), [1, 0] * 60)
 
     def test_the_answer_is_a_list_of_whole_numbers(self):
         answered = answers(told(HOUSE))

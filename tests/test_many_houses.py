@@ -3,7 +3,7 @@
 import random
 import unittest
 
-from tests.asking import act, ask, begins, own, plan
+from tests.asking import act, ask, begins, cut_lists, own, pair, plan, taking
 from tests.oracle import Oracle, goes_round
 
 
@@ -56,6 +56,25 @@ class ManyHouses(unittest.TestCase):
                 checks = ask(*calls_of(oracle), plan(cost, *acts), plan(cost - 1, *acts))
                 self.assertEqual(checks[-2:], [[0], [3, cost]])
 
+    def test_each_own_proof_is_taken(self):
+        for oracle, proofs in self.proved:
+            calls = [taking(kind, proof) for kind, proof in enumerate(proofs) if proof != [-6]]
+            self.assertEqual(ask(*calls_of(oracle), *calls)[1 + len(oracle.rows):], [[0]] * len(calls), vars(oracle))
+
+    def test_own_tables_and_cuts_are_not_taken_with_a_greater_claim(self):
+        for oracle, proofs in self.proved:
+            for kind, number in ((1, 4), (2, 3)):
+                if proofs[kind] != [-6]:
+                    claim, *rest = proofs[kind]
+                    checked = ask(*calls_of(oracle), taking(kind, [claim + 1] + rest))
+                    self.assertEqual(checked[-1], [number, claim])
+
+    def test_own_plan_and_table_are_taken_as_a_pair(self):
+        for oracle, proofs in self.proved:
+            if proofs[0] != [-6]:
+                checked = ask(*calls_of(oracle), pair(proofs[0][1:], proofs[1][1:]))
+                self.assertEqual(checked[-1], [1, proofs[0][0]])
+
     def test_own_cuts_bound_what_a_plan_costs(self):
         for oracle, proofs in self.proved:
             if proofs[2] != [-6]:
@@ -64,13 +83,10 @@ class ManyHouses(unittest.TestCase):
 
     def check_cuts(self, oracle, proof):
         left = [row[4] for row in oracle.rows]
-        at = 2
-        while at < len(proof):
-            acts = proof[at + 2:at + 2 + proof[at + 1]]
+        for worth, *acts in cut_lists(proof):
             self.assertFalse(goes_round(oracle, acts))
-            self.assertGreater(proof[at], 0)
-            left = [price - proof[at] * (number in acts) for number, price in enumerate(left)]
-            at += 2 + proof[at + 1]
+            self.assertGreater(worth, 0)
+            left = [price - worth * (number in acts) for number, price in enumerate(left)]
         self.assertGreaterEqual(min(left, default=0), 0)
 
 

@@ -2,7 +2,7 @@
 
 import unittest
 
-from tests.asking import act, begins, last, own
+from tests.asking import act, begins, cut_lists, last, own
 
 
 def cuts(*house):
@@ -10,13 +10,9 @@ def cuts(*house):
     told = last(*house, own(2))
     if len(told) == 1:
         return told
-    found = [told[0]]
-    at = 2
-    while at < len(told):
-        found.append((told[at], told[at + 2:at + 2 + told[at + 1]]))
-        at += 2 + told[at + 1]
-    assert len(found) == 1 + told[1]
-    return found
+    found = cut_lists(told)
+    assert len(found) == told[1]
+    return [told[0]] + [(cut[0], cut[1:]) for cut in found]
 
 
 class HowTold(unittest.TestCase):
